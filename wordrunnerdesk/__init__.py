@@ -1,0 +1,1 @@
+"""A small processor of sixteen bits."""
