@@ -2,7 +2,7 @@
 
 import unittest
 
-from tests.helper import CLEAR, asked, first_difference, load, look
+from tests.helper import ASKED, CLEAR, asked, first_difference, interrupt, load, look, put, run, state_behind, words
 from wordrunnerdesk.machine import answers
 from wordrunnerdesk.processor import Processor
 
@@ -33,6 +33,15 @@ class ClearTest(unittest.TestCase):
         self.assertEqual(processor.wipe(), 0)
         self.assertEqual(processor.registers, [0] * 16)
         self.assertIsNone(first_difference(processor.memory, [0] * 65536))
+
+    def test_again_behind_a_run_and_an_interrupt(self):
+        # The instruction pushes R4; the interrupt pushes two words more.
+        calls = [put(which, 300) for which in ASKED]
+        calls += [load(300, words(0x1204)), put(2, 8), run(1), interrupt(65534), CLEAR]
+        found, registers, memory = state_behind(calls)
+        self.assertEqual(found[-3:], [[1], [1], [0]])
+        self.assertEqual(registers, [0, 0, 0, None] + [0] * 12)
+        self.assertIsNone(first_difference(memory, [0] * 65536))
 
 
 if __name__ == "__main__":

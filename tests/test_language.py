@@ -185,6 +185,45 @@ class LanguageTest(unittest.TestCase):
                 names += [node.name] if isinstance(node, (ast.FunctionDef, ast.ClassDef)) else []
             self.assertEqual(sorted(names), sorted(set(names)))
 
+    def test_imports_come_from_the_file_that_defines_the_name(self):
+        drawn = {}
+        for path, text, tree in self.each_file():
+            drawn[path.stem] = []
+            for node in tree.body:
+                if isinstance(node, ast.ImportFrom):
+                    source = node.module.split(".")[1]
+                    drawn[path.stem].append(source)
+                    defined = ast.parse((PACKAGE / (source + ".py")).read_text(encoding="utf-8"))
+                    own = [name for part in defined.body if not isinstance(part, ast.ImportFrom)
+                           for name in bound_names(part)]
+                    for part in node.names:
+                        self.assertIn(part.name, own)
+                        self.assertIsNone(part.asname)
+        # No two files draw from one another: those that draw from none that is left go, until all are gone.
+        while drawn:
+            free = [name for name, sources in drawn.items() if not any(source in drawn for source in sources)]
+            self.assertNotEqual(free, [])
+            for name in free:
+                drawn.pop(name)
+
+    def test_no_local_is_called_like_an_import_or_a_class(self):
+        for path, text, tree in self.each_file():
+            taken = [part.name for node in tree.body if isinstance(node, ast.ImportFrom) for part in node.names]
+            taken += [node.name for node in tree.body if isinstance(node, (ast.ClassDef, ast.FunctionDef))]
+            for node in ast.walk(tree):
+                if isinstance(node, ast.arg):
+                    self.assertNotIn(node.arg, taken)
+                elif isinstance(node, ast.Name) and isinstance(node.ctx, ast.Store):
+                    self.assertNotIn(node.id, taken)
+
+    def test_every_import_is_used(self):
+        for path, text, tree in self.each_file():
+            used = [node.id for node in ast.walk(tree) if isinstance(node, ast.Name)]
+            for node in tree.body:
+                if isinstance(node, ast.ImportFrom):
+                    for part in node.names:
+                        self.assertIn(part.name, used)
+
 
 if __name__ == "__main__":
     unittest.main()

@@ -2,11 +2,15 @@
 
 from wordrunnerdesk.processor import Processor
 from wordrunnerdesk.reader import CallReader
+from wordrunnerdesk.runner import interrupt, run
 
 CLEAR = 1
 LOAD = 2
 LOOK = 3
 SET = 4
+GET = 5
+RUN = 6
+INTERRUPT = 7
 
 
 class UnknownCall(ValueError):
@@ -27,6 +31,12 @@ def answer_call(processor, reader):
     if kind == SET:
         which = reader.take()
         return [processor.put(which, reader.take())]
+    if kind == GET:
+        return [processor.held(reader.take())]
+    if kind == RUN:
+        return [run(processor, reader.take())]
+    if kind == INTERRUPT:
+        return [interrupt(processor, reader.take())]
     raise UnknownCall(f"no call has the number {kind}")
 
 

@@ -1,10 +1,13 @@
-"""The processor itself: its registers and its memory."""
+"""The processor itself: its registers, its memory and its stack."""
 
 MEMORY_SIZE = 65536
 
 DONE = 0
 REFUSED = -1
 
+PC = 0
+SP = 1
+SR = 2
 # R3 is always 0, so it can't be set.
 ZERO = 3
 
@@ -16,14 +19,17 @@ KEPT_BITS = (
     65535, 65535, 65535, 65535,
 )
 
+# A place modulo 65536 without its lowest bit, which isn't looked at where a word lies.
+WORD_PLACE = 65534
+
 
 def in_memory(at, n):
     """Whether n bytes from at on lie in memory."""
     return n >= 0 and at >= 0 and at + n <= MEMORY_SIZE
 
 
-def can_be_set(which):
-    """Whether which names one of R0 to R15 that may be set."""
+def can_be_asked(which):
+    """Whether which names one of R0 to R15 that may be set and asked."""
     return 0 <= which < len(KEPT_BITS) and which != ZERO
 
 
@@ -60,7 +66,41 @@ class Processor:
 
     def put(self, which, value):
         """Set one of R0 to R15, or refuse."""
-        if not can_be_set(which):
+        if not can_be_asked(which):
             return REFUSED
         self.keep(which, value)
         return DONE
+
+    def held(self, which):
+        """What one of R0 to R15 is, or the refusal."""
+        if not can_be_asked(which):
+            return REFUSED
+        return self.registers[which]
+
+    def word_at(self, at):
+        """The word in memory at a place."""
+        lower = at & WORD_PLACE
+        return self.memory[lower] + 256 * self.memory[lower + 1]
+
+    def keep_word(self, at, word):
+        """Bring a word into memory at a place."""
+        lower = at & WORD_PLACE
+        self.memory[lower] = word & 255
+        self.memory[lower + 1] = word >> 8
+
+    def next_word(self):
+        """The word at PC, which then goes on behind it."""
+        word = self.word_at(self.registers[PC])
+        self.keep(PC, self.registers[PC] + 2)
+        return word
+
+    def push(self, word):
+        """Bring a word onto the stack."""
+        self.keep(SP, self.registers[SP] - 2)
+        self.keep_word(self.registers[SP], word)
+
+    def pull(self):
+        """Take a word from the stack."""
+        word = self.word_at(self.registers[SP])
+        self.keep(SP, self.registers[SP] + 2)
+        return word

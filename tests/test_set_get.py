@@ -1,8 +1,8 @@
-"""Promise 3, ms_set, and what the registers keep of a number."""
+"""Promise 3, ms_set and ms_get, and what the registers keep of a number."""
 
 import unittest
 
-from tests.helper import HIGHEST, LOWEST, asked, first_difference, look, put
+from tests.helper import CLEAR, HIGHEST, LOWEST, asked, first_difference, get, look, put, state_behind
 from wordrunnerdesk.processor import Processor
 
 SETTABLE = [0, 1, 2] + list(range(4, 16))
@@ -105,6 +105,47 @@ class KeptTest(unittest.TestCase):
         processor.put(5, 6)
         processor.put(4, 1)
         self.assertEqual(processor.registers[4:6], [1, 6])
+
+
+class GetTest(unittest.TestCase):
+    def test_all_are_0_at_first(self):
+        for which in SETTABLE:
+            self.assertEqual(asked(get(which)), [[0]])
+
+    def test_each_that_is_refused(self):
+        for which in REFUSED:
+            self.assertEqual(asked(get(which)), [[-1]])
+            self.assertEqual(asked(put(which, 1234), get(which)), [[-1], [-1]])
+
+    def test_what_is_answered_is_the_value_as_it_is_kept(self):
+        for row in KEPT:
+            for which in SETTABLE:
+                kept = row[{0: 1, 1: 1, 2: 2}.get(which, 3)]
+                self.assertEqual(asked(put(which, row[0]), get(which)), [[0], [kept]])
+
+    def test_each_has_a_value_of_its_own(self):
+        calls = [put(which, 100 + 2 * which) for which in SETTABLE]
+        found = asked(*calls, *[get(which) for which in SETTABLE])
+        self.assertEqual(found[len(calls):], [[100 + 2 * which] for which in SETTABLE])
+
+    def test_asked_again_it_is_the_same(self):
+        self.assertEqual(asked(put(7, 77), get(7), get(7)), [[0], [77], [77]])
+
+    def test_a_set_that_is_refused_changes_none(self):
+        calls = [put(which, 100 + 2 * which) for which in SETTABLE] + [put(which, 9) for which in REFUSED]
+        found = asked(*calls, *[get(which) for which in SETTABLE])
+        self.assertEqual(found[len(calls):], [[100 + 2 * which] for which in SETTABLE])
+
+    def test_a_get_changes_nothing(self):
+        before = state_behind([put(4, 5), put(2, 300)])
+        after = state_behind([put(4, 5), put(2, 300)] + [get(which) for which in SETTABLE + REFUSED])
+        self.assertEqual(after[1], before[1])
+        self.assertIsNone(first_difference(after[2], before[2]))
+
+    def test_all_are_0_behind_a_clear(self):
+        calls = [put(which, 65535) for which in SETTABLE] + [CLEAR]
+        found = asked(*calls, *[get(which) for which in SETTABLE])
+        self.assertEqual(found[len(calls):], [[0]] * len(SETTABLE))
 
 
 if __name__ == "__main__":
